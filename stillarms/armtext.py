@@ -26,10 +26,10 @@ def ratio_by(word):
 
 def place_by(arms, word):
     """The place whose text this is, or None."""
-    name, colon, rest = word.partition(":")
+    name, _, rest = word.partition(":")
     bar = bar_by(name, len(arms.bars))
     mark = ratio_by(rest)
-    if colon == "" or bar is None or mark is None:
+    if bar is None or mark is None:
         return None
     return (bar, mark)
 

@@ -1,0 +1,124 @@
+"""The interface: each name in its own file, with its arguments and defaults, and each method in its own class."""
+import importlib
+import inspect
+import re
+import unittest
+
+LISTED = {
+    "ratios": """is_whole(thing, low=None, high=None), is_ratio(thing), make_ratio(top, bottom=1), plus(one, other),
+        minus(one, other), times(one, other), over(one, other), negative(one), size_of(one), compare(one, other),
+        sum_of(row), least_of(row), greatest_of(row), ratio_text(one), ratio_of(text)""",
+    "arms": """check_place(arms, place), scale_row(row, ratio), join_rows(one, other), take_row(one, other),
+        is_nought(row), grown_place(place, size), letter_row(arms, letter)""",
+    "armtext": "place_text(place), place_of(arms, text), arm_text(arms), arms_of(text)",
+    "rigs": "",
+    "rigtext": "rig_text(rig), rig_of(arms, text)",
+    "directions": """is_spot(thing), check_spot(spot), is_direction(thing), check_direction(direction), root_of(ratio),
+        direction_by(half), half_of(direction), add_halves(one, other), turned_by(direction, half),
+        turned_quarters(direction, quarters), quarter_direction(quarters), opposite_of(direction),
+        mirrored_direction(direction), cosine_between(one, other), sine_between(one, other)""",
+    "posetext": "pose_text(pose), pose_of(arms, text)",
+    "poses": """check_pose(arms, pose), check_letter(arms, letter, least=0), direction_of(arms, pose, letter),
+        cosine_of(arms, pose, one, other), sine_of(arms, pose, one, other), up_pose(arms), pose_by(arms, halves),
+        flat_poses(arms), quarter_poses(arms), with_direction(arms, pose, letter, direction),
+        turned_letter(arms, pose, letter, half), mirrored_pose(arms, pose), renamed_pose(arms, pose, order),
+        place_at(arms, pose, place), height_at(arms, pose, place), hinges_at(arms, pose),
+        square_between(arms, pose, one, other)""",
+    "works": """weight_works(rig, pose), spring_works(rig, pose), work_at(rig, pose),
+        push_of_weight(rig, pose, number, letter), push_of_spring(rig, pose, number, letter),
+        push_at(rig, pose, letter), pushes_at(rig, pose), rests_in(rig, pose), sway_of(rig, pose, letter),
+        resting_directions(sway)""",
+    "alike": """apart_pose(arms, one, other), always_one(arms, one, other), group_places(arms, places),
+        same_hinges(arms), copying_of(arms, one, other), uncopied_pose(arms, one, other, copying),
+        keeps_distance(arms, one, other), unequal_pose(arms, one, other, third, fourth),
+        slanting_pose(arms, one, other, third, fourth), crossing_pose(arms, one, other, third, fourth),
+        crooked_pose(arms, one, other, third)""",
+    "reach": """greatest_distance(arms, one, other), least_distance(arms, one, other), can_meet(arms, one, other),
+        farthest_pose(arms, one, other), nearest_pose(arms, one, other), beyond_pose(arms, one, other, length),
+        below_pose(arms, one, other), heights_of(arms, place), height_poses(arms, place), belt_of(arms, place),
+        can_come_to(arms, place, spot)""",
+    "couplings": """pairs_of(letters), zero_couplings(letters), couplings_by(letters, numbers), row_couplings(row),
+        span_couplings(arms, one, other), couplings_of(rig), weight_couplings(rig), spring_couplings(rig),
+        constant_of(rig), weight_row(rig), pair_product(one, other)""",
+    "signs": """groups_of(couplings), signs_for(couplings), signs_fault(couplings, signs),
+        ring_fault(couplings, ring)""",
+    "stillness": """work_by(couplings, pose), push_by(couplings, pose, letter), push_pose(couplings, letter),
+        is_still(rig), still_or_push(rig), push_fault(rig, push), same_feel(one, other), work_rise(rig, pose, other),
+        greatest_rise(rig, letter), loose_letters(rig), lot_push(rig, lot)""",
+    "worktables": "flat_works(constant, couplings), split_works(works), one_spring(couplings)",
+}
+
+CLASSES = {
+    "arms": {"Arms(bars)": """row_of(place), hinge_row(number), difference_row(one, other),
+        with_bar(host, mark, letter), grown(size), shifted(step), renamed(order), __len__(), __eq__(other)"""},
+    "rigs": {"Rig(arms, weights=(), springs=())": """with_weight(place, amount), with_spring(one, other, strength),
+        without_weight(number), without_spring(number), with_amount(number, amount), with_strength(number, strength),
+        bare(), joined(other), spring_row(number), weight_rows(), grown(size), renamed(order), shifted(step),
+        __len__(), __eq__(other)"""},
+    "works": {"Sway(across, upward, steady)": "work_in(direction), push_in(direction), is_free(), __eq__(other)"},
+    "alike": {"Copying(ratio, shift)": "image_of(spot), chained(other), turned_back(), __eq__(other)"},
+    "reach": {"Belt(centre, low, high)": "__contains__(spot), __eq__(other)"},
+    "couplings": {"Couplings(rows)": """coupling(one, other), added(other), scaled(ratio), opposite(), is_zero(),
+        greatest_push(letter), __len__(), __eq__(other)"""},
+    "signs": {"Signs(signs)": "__eq__(other)", "OddRing(letters)": "__eq__(other)"},
+    "stillness": {"Push(letter, pose, push)": "__eq__(other)", "Rise(letter, low, high, rise)": "__eq__(other)"},
+    "worktables": {"WorkSplit(constant, couplings)": "__eq__(other)", "Tangled(letters)": "__eq__(other)",
+                   "OneSpring(strength, row)": "__eq__(other)"},
+}
+
+PROPERTIES = (("works", "Sway", "swing"), ("alike", "Copying", "fixed_mark"))
+GENERATORS = (("poses", "flat_poses"), ("poses", "quarter_poses"))
+
+
+def calls(text):
+    """The names and signatures of a row such as "f(x), g(y, z=1)"."""
+    for entry in re.split(r"(?<=\)), (?=\w+\()", " ".join(text.split())):
+        if entry:
+            name, arguments = entry.split("(", 1)
+            yield name, "(" + arguments
+
+
+def signature(function, own=False):
+    told = inspect.signature(function)
+    names = list(told.parameters.values())[1 if own else 0:]
+    return str(told.replace(parameters=names))
+
+
+class Interface(unittest.TestCase):
+    def test_functions(self):
+        for module, text in LISTED.items():
+            home = importlib.import_module("stillarms." + module)
+            for name, arguments in calls(text):
+                function = getattr(home, name)
+                self.assertTrue(inspect.isfunction(function), name)
+                self.assertEqual(function.__module__, home.__name__)
+                self.assertEqual(signature(function), arguments, name)
+                self.assertEqual(inspect.isgeneratorfunction(function), (module, name) in GENERATORS, name)
+
+    def test_classes(self):
+        for module, classes in CLASSES.items():
+            home = importlib.import_module("stillarms." + module)
+            for head, text in classes.items():
+                (name, arguments), = calls(head)
+                made = getattr(home, name)
+                self.assertEqual((made.__module__, made.__bases__), (home.__name__, (object,)))
+                self.assertEqual(signature(made.__init__, own=True), arguments, name)
+                for method, told in calls(text):
+                    self.assertIn(method, vars(made), name)
+                    self.assertEqual(signature(vars(made)[method], own=True), told, f"{name}.{method}")
+
+    def test_properties(self):
+        for module, name, told in PROPERTIES:
+            made = getattr(importlib.import_module("stillarms." + module), name)
+            self.assertIs(type(vars(made)[told]), property)
+
+    def test_constants(self):
+        ratios = importlib.import_module("stillarms.ratios")
+        directions = importlib.import_module("stillarms.directions")
+        self.assertEqual((ratios.ZERO, ratios.ONE, ratios.HALF), ((0, 1), (1, 1), (1, 2)))
+        self.assertEqual([directions.UP, directions.LEFT, directions.DOWN, directions.RIGHT, directions.END],
+                         [((0, 1), (1, 1)), ((-1, 1), (0, 1)), ((0, 1), (-1, 1)), ((1, 1), (0, 1)), None])
+
+
+if __name__ == "__main__":
+    unittest.main()
