@@ -1,4 +1,6 @@
-"""What is asked of rows of any things, and rows of choices."""
+"""What is asked of rows of any things, rows of choices, and lots."""
+from itertools import combinations
+
 from stillarms.ratios import is_whole
 
 
@@ -37,3 +39,16 @@ def rows_among(many, choices):
     for _ in range(many):
         rows = [row + (choice,) for row in rows for choice in choices]
     return rows
+
+
+def lots_among(many, most):
+    """All lots of at most `most` of the numbers below `many`, in order."""
+    lots = []
+    for size in range(min(many, most) + 1):
+        for lot in combinations(range(many), size):
+            lots.append(lot)
+    return lots
+
+
+def is_part(part, lot):
+    return all([number in lot for number in part])

@@ -5,6 +5,7 @@ from fractions import Fraction
 
 from stillarms.arms import Arms
 from stillarms.directions import direction_by
+from stillarms.ratios import ONE, ZERO
 from stillarms.rigs import Rig
 
 MAST = -1
@@ -36,6 +37,34 @@ def fracs(row):
 
 def place(bar, mark):
     return (bar, q(mark))
+
+
+def columns_of(*texts):
+    """Columns of a task from texts, one for each column."""
+    return tuple(qs(text) for text in texts)
+
+
+def dot(one, other):
+    """The product of two rows of ratios, as a Fraction."""
+    assert len(one) == len(other)
+    return sum((frac(left) * frac(right) for left, right in zip(one, other)), Fraction(0))
+
+
+def mixed(columns, amounts, height):
+    """The sum of amount times column, as Fractions."""
+    return [dot(amounts, [column[index] for column in columns]) for index in range(height)]
+
+
+def rank(rows):
+    """How many of the rows of ratios are independent at most."""
+    rows, found = [fracs(row) for row in rows], 0
+    while rows:
+        first = rows.pop()
+        at = next((index for index, number in enumerate(first) if number != 0), None)
+        if at is not None:
+            found += 1
+            rows = [[left - row[at] / first[at] * right for left, right in zip(row, first)] for row in rows]
+    return found
 
 
 class Case(unittest.TestCase):
@@ -78,6 +107,23 @@ def lamp_rig():
 def balanced():
     arms = Arms(((MAST, (0, 1), 1),))
     return Rig(arms, (((0, (2, 1)), (1, 1)),), (((MAST, (4, 1)), (0, (1, 1)), (1, 2)),))
+
+
+def free(letters):
+    """Arms with one bar of each letter, all about the foot of the mast."""
+    return Arms([(MAST, ZERO, letter) for letter in range(1, letters + 1)])
+
+
+def rig_with(letters, **coupled):
+    """A rig of which only the couplings of the named pairs, like c12, are not 0."""
+    springs = []
+    for name, number in coupled.items():
+        one, other, strength = int(name[1]), int(name[2]), q(number)
+        size = (abs(strength[0]), strength[1])
+        first = (MAST if one == 0 else one - 1, ONE)
+        second = (other - 1, ONE if strength[0] < 0 else q(-1))
+        springs.append((first, second, size))
+    return Rig(free(letters), (), springs)
 
 
 class Draws:

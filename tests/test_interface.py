@@ -46,6 +46,23 @@ LISTED = {
         is_still(rig), still_or_push(rig), push_fault(rig, push), same_feel(one, other), work_rise(rig, pose, other),
         greatest_rise(rig, letter), loose_letters(rig), lot_push(rig, lot)""",
     "worktables": "flat_works(constant, couplings), split_works(works), one_spring(couplings)",
+    "brakes": """check_brakes(arms, brakes), least_brakes(rig), is_held(rig, brakes), slip_of(rig, brakes),
+        slip_fault(rig, brakes, slip)""",
+    "pins": """check_pins(arms, pins), pinned_bounds(rig, pins), is_held_pinned(rig, brakes, pins),
+        pinned_slip(rig, brakes, pins), pinned_fault(rig, brakes, pins, slip), pinned_stretches(rig, pins),
+        pinned_pose(rig, pins, letter)""",
+    "stretches": "corner_choices(stretched), rig_at(stretched, numbers), rig_by(stretched, choice)",
+    "allheld": """coupling_extent(stretched, one, other), push_extent(stretched, pose, letter),
+        rise_extent(stretched, pose, other), numbers_that_matter(stretched), all_still(stretched),
+        all_held(stretched, brakes, *, pins=()), least_brakes_for(stretched),
+        breach_fault(stretched, brakes, breach, *, pins=())""",
+    "losses": """spring_lots(rig, count), without_lot(rig, lot), weakened(rig, shares),
+        held_without(rig, brakes, count, *, pins=()), least_brakes_without(rig, count), most_lost(rig, brakes),
+        least_losses(rig, brakes), loss_fault(rig, brakes, loss, *, pins=())""",
+    "tasks": "solve_task(columns, target), least_cost(columns, target, costs), least_sum(columns, target)",
+    "taskjudge": """solution_fault(columns, target, solution), against_fault(columns, target, against),
+        least_fault(columns, target, costs, least), endless_fault(columns, target, costs, endless)""",
+    "lean": "all_lean(columns, target)",
 }
 
 CLASSES = {
@@ -64,10 +81,20 @@ CLASSES = {
     "stillness": {"Push(letter, pose, push)": "__eq__(other)", "Rise(letter, low, high, rise)": "__eq__(other)"},
     "worktables": {"WorkSplit(constant, couplings)": "__eq__(other)", "Tangled(letters)": "__eq__(other)",
                    "OneSpring(strength, row)": "__eq__(other)"},
+    "brakes": {"Slips(letter, pose, push)": "__eq__(other)"},
+    "stretches": {"Stretched(bars, weights=(), springs=())": "__len__(), __eq__(other), __contains__(numbers)"},
+    "allheld": {"Stirred(choice, push)": "__eq__(other)", "Breach(choice, slip)": "__eq__(other)"},
+    "losses": {"Lost(lot, slip)": "__eq__(other)"},
+    "tasks": {"Solution(amounts)": "__eq__(other)", "Against(numbers)": "__eq__(other)",
+              "Least(value, amounts, numbers)": "__eq__(other)", "Endless(amounts, way)": "__eq__(other)"},
 }
 
-PROPERTIES = (("works", "Sway", "swing"), ("alike", "Copying", "fixed_mark"))
-GENERATORS = (("poses", "flat_poses"), ("poses", "quarter_poses"))
+PROPERTIES = (("works", "Sway", "swing"), ("alike", "Copying", "fixed_mark"), ("stretches", "Stretched", "middle"))
+GENERATORS = (("poses", "flat_poses"), ("poses", "quarter_poses"), ("stretches", "corner_choices"),
+              ("losses", "spring_lots"), ("lean", "all_lean"))
+
+# Classes that check or keep more than they are given.
+NO_RESULTS = ("Arms", "Rig", "Couplings", "Stretched")
 
 
 def calls(text):
@@ -111,6 +138,30 @@ class Interface(unittest.TestCase):
         for module, name, told in PROPERTIES:
             made = getattr(importlib.import_module("stillarms." + module), name)
             self.assertIs(type(vars(made)[told]), property)
+
+    def test_stretched(self):
+        made = vars(importlib.import_module("stillarms.stretches").Stretched)
+        self.assertIs(type(made["from_rig"]), staticmethod)
+        self.assertEqual(signature(made["from_rig"].__func__), "(rig)")
+        self.assertEqual(made["MOST"], 6)
+
+    def test_results_keep_what_they_are_given(self):
+        for module, classes in CLASSES.items():
+            for head in classes:
+                (name, arguments), = calls(head)
+                if name in NO_RESULTS:
+                    continue
+                names = re.findall(r"\w+", arguments)
+                values = [[], *[object() for _ in names[1:]]]
+                made = getattr(importlib.import_module("stillarms." + module), name)
+                told = made(*values)
+                self.assertEqual(vars(told), dict(zip(names, values)))
+                self.assertIs(getattr(told, names[0]), values[0])
+                self.assertTrue(told == made(*values))
+                self.assertFalse(told == type("Other", (), vars(told))())
+                for index in range(len(values)):
+                    other = made(*values[:index], object(), *values[index + 1:])
+                    self.assertFalse(told == other or other == told, head)
 
     def test_constants(self):
         ratios = importlib.import_module("stillarms.ratios")

@@ -12,28 +12,12 @@ from stillarms.rigs import Rig
 from stillarms.stillness import (Push, Rise, greatest_rise, is_still, loose_letters, lot_push, push_by, push_fault,
                                  push_pose, same_feel, still_or_push, work_by, work_rise)
 from stillarms.works import push_at, pushes_at, work_at
-from tests.cases import MAST, ODD_THINGS, Case, Draws, balanced, frac, lamp, lamp_rig, q, qs, tree
+from tests.cases import (MAST, ODD_THINGS, Case, Draws, balanced, frac, free, lamp, lamp_rig, q, qs, rig_with,
+                         tree)
 
 SLANT = qs("3/5 4/5")
 NO_LETTERS = (0, 3, -1, None, True, False, 1.0, "1", (1,))
 BAD_POSES = ((0, None), (0, ()), (1, (UP,)), (2, (UP, UP, UP)), (1, (UP, ZERO)), (0, (qs("1 1"), UP)))
-
-
-def free(letters):
-    """Arms with one bar of each letter, all about the foot of the mast."""
-    return Arms([(MAST, ZERO, letter) for letter in range(1, letters + 1)])
-
-
-def rig_with(letters, **coupled):
-    """A rig of which only the couplings of the named pairs, like c12, are not 0."""
-    springs = []
-    for name, number in coupled.items():
-        one, other, strength = int(name[1]), int(name[2]), q(number)
-        size = (abs(strength[0]), strength[1])
-        first = (MAST if one == 0 else one - 1, ONE)
-        second = (other - 1, ONE if strength[0] < 0 else q(-1))
-        springs.append((first, second, size))
-    return Rig(free(letters), (), springs)
 
 
 def balanced_lamp():
