@@ -159,3 +159,22 @@ class Draws:
         return Rig(arms, [(self.place(arms), self.positive()) for _ in range(self.random.randint(0, weights))],
                    [(self.place(arms), self.place(arms), self.positive())
                     for _ in range(self.random.randint(0, springs))])
+
+    def pool(self, arms, most=6):
+        return tuple((self.place(arms), self.place(arms)) for _ in range(self.random.randint(0, most)))
+
+    def pooled(self, letters=None, most=6):
+        """A rig on bars about the foot of the mast, and a pool that stills it in about half of all cases."""
+        arms = free(letters or self.random.randint(1, 4))
+        pool = tuple((self.small_place(arms), self.small_place(arms)) for _ in range(self.random.randint(0, most)))
+        springs = []
+        for one, (bar, mark) in pool:
+            if self.random.random() < 0.5:
+                # The span's couplings have their signs changed, unless both places are on one bar.
+                springs.append((one, (bar, (-mark[0], mark[1])), q(self.random.randint(1, 3))))
+        if self.random.random() < 0.3:
+            springs.append((self.small_place(arms), self.small_place(arms), ONE))
+        return Rig(arms, (), springs), pool
+
+    def small_place(self, arms):
+        return (self.random.randint(MAST, len(arms) - 1), q(self.random.choice((-2, -1, 1, 2))))

@@ -63,6 +63,22 @@ LISTED = {
     "taskjudge": """solution_fault(columns, target, solution), against_fault(columns, target, against),
         least_fault(columns, target, costs, least), endless_fault(columns, target, costs, endless)""",
     "lean": "all_lean(columns, target)",
+    "pools": """check_pool(arms, pool), stills(rig, pool), wished(arms, pool, couplings),
+        least_strength(rig, pool)""",
+    "pooljudge": """with_strengths(rig, pool, row), stills_fault(rig, pool, told),
+        wished_fault(arms, pool, couplings, told), least_strength_fault(rig, pool, told)""",
+    "fewest": "still_lots(rig, pool), fewest_springs(rig, pool), bearing_letters(rig), needed_count(rig)",
+    "owners": "owners_of(rig), pool_owners(rig, pool)",
+    "ends": """strength_ends(rig, pool, number), needed_springs(rig, pool), usable_springs(rig, pool),
+        only_strengths(rig, pool)""",
+    "counters": """counterweights(rig, places), least_counterweights(rig, places),
+        with_counterweights(rig, places, row), counterweights_fault(rig, places, told)""",
+    "slides": """check_loads(rig, loads), check_slides(rig, loads, slides), check_amounts(loads, amounts),
+        check_settings(slides, settings), rig_by_settings(rig, loads, slides, amounts, settings),
+        straight_parts(rig, loads, slides), corner_amounts(loads), corner_settings(slides)""",
+    "adjusters": """settings_for(rig, loads, slides, amounts, *, brakes=None),
+        rule_for(rig, loads, slides, *, brakes=None), fewest_slides(rig, loads, slides, *, brakes=None),
+        needed_slides(rig, loads)""",
 }
 
 CLASSES = {
@@ -87,11 +103,22 @@ CLASSES = {
     "losses": {"Lost(lot, slip)": "__eq__(other)"},
     "tasks": {"Solution(amounts)": "__eq__(other)", "Against(numbers)": "__eq__(other)",
               "Least(value, amounts, numbers)": "__eq__(other)", "Endless(amounts, way)": "__eq__(other)"},
+    "pools": {"Strengths(row)": "__eq__(other)", "NoStrengths(table)": "__eq__(other)",
+              "LeastStrengths(value, row, table)": "__eq__(other)"},
+    "owners": {"Owners(springs)": "__eq__(other)", "Short(letters, springs)": "__eq__(other)"},
+    "ends": {"Ends(least, greatest)": "__eq__(other)"},
+    "counters": {"Counterweights(row)": "__eq__(other)", "NoCounterweights(table)": "__eq__(other)",
+                 "LeastCounterweights(value, row, table)": "__eq__(other)"},
+    "slides": {"Parts(constant, by_loads, by_slides)": "__eq__(other)"},
+    "adjusters": {"Settings(row)": "__eq__(other)", "NoSetting(table, shares)": "__eq__(other)",
+                  "Rule(loads, corners, rows)": "__call__(amounts), __eq__(other)",
+                  "NoRule(amounts, why)": "__eq__(other)"},
 }
 
 PROPERTIES = (("works", "Sway", "swing"), ("alike", "Copying", "fixed_mark"), ("stretches", "Stretched", "middle"))
 GENERATORS = (("poses", "flat_poses"), ("poses", "quarter_poses"), ("stretches", "corner_choices"),
-              ("losses", "spring_lots"), ("lean", "all_lean"))
+              ("losses", "spring_lots"), ("lean", "all_lean"), ("fewest", "still_lots"), ("slides", "corner_amounts"),
+              ("slides", "corner_settings"))
 
 # Classes that check or keep more than they are given.
 NO_RESULTS = ("Arms", "Rig", "Couplings", "Stretched")
