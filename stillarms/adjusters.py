@@ -25,8 +25,8 @@ def _settle(parts, slides, amounts, brakes):
     """Settings for these amounts, or what shows that there are none.
 
     The task has a row for each coupling, which is to be 0, and one for each slide; with brakes also one for each
-    letter. Its columns are: how far each slide stands above its low, and how far below its high; with brakes also
-    how far each coupling is above 0, and how far below, and what each brake has left.
+    letter, whose brake is to be used up. Its columns are: how far each slide stands above its low, and how far below
+    its high; with brakes also how far each coupling is above 0, and how far below.
     """
     letters = parts.constant.letters
     start = parts.constant
@@ -60,7 +60,10 @@ def _slide_columns(by_slides, brake_rows):
 
 
 def _brake_columns(letters, slide_rows):
-    """How far the couplings are above 0 and below it, each at the brakes of its letters; what the brakes have left."""
+    """How far the couplings are above 0, and how far below, each at the brakes of its letters.
+
+    Both columns of a coupling with letter 0 together change no coupling; they use up what its brake has left.
+    """
     pairs = pairs_of(letters)
     middle = (ZERO,) * slide_rows
     columns = []
@@ -69,15 +72,13 @@ def _brake_columns(letters, slide_rows):
         used = join_rows(row_at(letters, one, ONE), row_at(letters, other, ONE))[1:]
         columns.append(scale_row(_unit(len(pairs), index), (-1, 1)) + middle + used)
         columns.append(_unit(len(pairs), index) + middle + used)
-    for letter in range(1, letters + 1):
-        columns.append((ZERO,) * len(pairs) + middle + row_at(letters, letter, ONE)[1:])
     return columns
 
 
 def _no_setting(letters, numbers, slide_rows, brakes):
     """The numbers against the task, those of the couplings as a table and those of the brakes as shares."""
     many = len(pairs_of(letters))
-    shares = None if brakes is None else tuple(numbers[many + slide_rows:])
+    shares = None if brakes is None else numbers[many + slide_rows:]
     return NoSetting(couplings_by(letters, numbers[:many]), shares)
 
 

@@ -44,7 +44,7 @@ def check_slides(rig, loads, slides):
 
 
 def _has_form(thing):
-    if not is_row(thing, 4, 5) or not isinstance(thing[0], str):
+    if not is_row(thing, 1) or not isinstance(thing[0], str):
         return False
     return FORMS.get(thing[0]) == len(thing)
 
@@ -84,7 +84,7 @@ def check_settings(slides, settings):
 
 def _stretches_of(rows):
     """The stretches of loads or slides."""
-    return [tuple(row[-2:]) for row in rows]
+    return [row[-2:] for row in rows]
 
 
 def corner_amounts(loads):

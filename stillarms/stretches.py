@@ -16,11 +16,6 @@ def _high_of(thing):
     return thing[1] if _is_stretch(thing) else thing
 
 
-def _kept(thing):
-    """A stretch as a tuple; any other thing as it is."""
-    return tuple(thing) if _is_stretch(thing) else thing
-
-
 def _high_bar(bar):
     return (bar[0], _high_of(bar[1]), bar[2]) if is_row(bar, 3, 3) else bar
 
@@ -51,7 +46,8 @@ def _high_rig(bars, weights, springs):
 
 
 def _kept_place(place):
-    return (place[0], _kept(place[1]))
+    """The place with its mark, a ratio or a stretch, as a tuple."""
+    return (place[0], tuple(place[1]))
 
 
 def _slots_of(bars, weights, springs):
@@ -70,10 +66,10 @@ def _slots_of(bars, weights, springs):
 def _check_stretches(slots):
     if len(slots) > Stretched.MOST:
         raise BadStretch(0, "many")
-    for index, ((low, high), least) in enumerate(slots):
-        if compare(low, high) >= 0:
+    for index, (stretch, least) in enumerate(slots):
+        if compare(stretch[0], stretch[1]) >= 0:
             raise BadStretch(index, "order")
-        if least is not None and compare(low, least) < 0:
+        if least is not None and compare(stretch[0], least) < 0:
             raise BadStretch(index, "below")
 
 
@@ -84,9 +80,10 @@ class Stretched:
 
     def __init__(self, bars, weights=(), springs=()):
         self.letters = _high_rig(bars, weights, springs).arms.letters
-        self.bars = tuple([(host, _kept(mark), letter) for host, mark, letter in bars])
-        self.weights = tuple([(_kept_place(place), _kept(amount)) for place, amount in weights])
-        self.springs = tuple([(_kept_place(one), _kept_place(other), _kept(strength))
+        # Ratios are tuples already; stretches may be lists.
+        self.bars = tuple([(host, tuple(mark), letter) for host, mark, letter in bars])
+        self.weights = tuple([(_kept_place(place), tuple(amount)) for place, amount in weights])
+        self.springs = tuple([(_kept_place(one), _kept_place(other), tuple(strength))
                               for one, other, strength in springs])
         slots = _slots_of(self.bars, self.weights, self.springs)
         free = [(entry, least) for entry, least in slots if _is_stretch(entry)]

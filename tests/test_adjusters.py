@@ -13,7 +13,7 @@ from stillarms.ratios import ONE, ZERO
 from stillarms.rigs import Rig
 from stillarms.rigtext import rig_of, rig_text
 from stillarms.slides import check_settings, corner_amounts, corner_settings, rig_by_settings
-from stillarms.stillness import is_still
+from stillarms.stillness import is_still, same_feel
 from tests.cases import MAST, Case, Draws, balanced, frac, fracs, free, lamp, place, q, qs, rank
 from tests.test_brakes import BAD_BRAKES
 from tests.test_slides import BAD_LOADS, BAD_SLIDES, LOADS, SLIDES, draw_case, sample
@@ -31,6 +31,8 @@ class AdjusterCase(Case):
         self.same(check_settings(slides, row), row)
         found = rig_by_settings(rig, loads, slides, amounts, row)
         self.assertTrue(is_still(found) if brakes is None else is_held(found, brakes))
+        if brakes is None:
+            self.assertIsNone(same_feel(found, Rig(rig.arms)))
 
     def unsettled(self, rig, loads, slides, amounts, told, brakes=None):
         self.assertIs(type(told), NoSetting)
@@ -155,6 +157,10 @@ class SettingsFor(AdjusterCase):
                 self.fails(BadBrakes, {"index": index}, fewest_slides, rig, LOADS, SLIDES, brakes=brakes)
 
 
+def spring_slides(slides):
+    return tuple(slide for slide in slides if slide[0] in ("end", "strength"))
+
+
 def still_rig(draws):
     """A still rig on bars about the foot of the mast, and the marks on the mast of its springs."""
     arms = free(draws.random.randint(1, 3))
@@ -271,6 +277,34 @@ class Rules(AdjusterCase):
             self.assertIs(type(rule_for(rig.renamed(order), loads, slides)), type(told))
             if type(told) is Rule:
                 self.ruled(rig.renamed(order), loads, slides, told)
+
+    def test_shifted_and_grown_rigs(self):
+        draws = Draws("rules of moved rigs")
+        step, size = q(3), q("5/2")
+        count = {Rule: 0, NoRule: 0}
+        for _ in range(40):
+            rig, loads, slides = draw_case(draws)
+            brakes = tuple(q(draws.random.randint(0, 60)) for _ in range(rig.arms.letters))
+            told = rule_for(rig, loads, slides, brakes=brakes)
+            count[type(told)] += 1
+            shifted = tuple(self.moved(rig, slide, lambda mark, bar: q(frac(mark) + (frac(step) if bar == MAST else 0)))
+                            for slide in slides)
+            self.assertIs(type(rule_for(rig.shifted(step), loads, shifted, brakes=brakes)), type(told))
+            # Without brakes a rig of another size can be settled alike: springs have its square, weights not.
+            told = rule_for(Rig(rig.arms, (), rig.springs), (), spring_slides(slides))
+            grown = tuple(self.moved(rig, slide, lambda mark, bar: q(frac(mark) * frac(size))) for slide in spring_slides(slides))
+            self.assertIs(type(rule_for(Rig(rig.arms, (), rig.springs).grown(size), (), grown)), type(told))
+        self.assertTrue(all(many > 8 for many in count.values()), count)
+
+    def moved(self, rig, slide, move):
+        """The slide with its marks moved as those of the rig, if it slides a mark."""
+        if slide[0] == "end":
+            bar = rig.springs[slide[1]][slide[2]][0]
+        elif slide[0] == "mark":
+            bar = rig.weights[slide[1]][0][0]
+        else:
+            return slide
+        return slide[:-2] + (move(slide[-2], bar), move(slide[-1], bar))
 
 
 class Fewest(AdjusterCase):

@@ -142,6 +142,36 @@ class Bounds(Case):
                 self.assertEqual(told.pose[1], direction)
                 self.assertIsNone(pinned_fault(rig, (q("99999/100000"), ZERO), ((2, direction),), told))
 
+        # Here a root that is cut off too early would leave no direction at all.
+        for one in (1, -1):
+            rig = rig_with(2, c12=9, c01=one)
+            told = pinned_slip(rig, (q("9055/1000"), ZERO), ((2, LEFT),))
+            self.assertIsNone(pinned_fault(rig, (q("9055/1000"), ZERO), ((2, LEFT),), told))
+
+    def test_brakes_of_just_the_push_that_was_told(self):
+        rig = rig_with(2, c01=1, c12=1)
+        brake = ZERO
+        for _ in range(5):
+            told = pinned_slip(rig, (brake, ZERO), ((2, RIGHT),))
+            self.assertGreater(frac(told.push), frac(brake))
+            self.assertIsNone(pinned_fault(rig, (brake, ZERO), ((2, RIGHT),), told))
+            brake = told.push
+
+    def test_nothing_fast_pulls_on_it(self):
+        # Letter 1 is coupled with letter 3 alone, which is free: any direction of letter 1 will do.
+        rig = rig_with(3, c13=-2, c02=1)
+        self.same(pinned_bounds(rig, ((2, LEFT),)), ((1, q(2), ZERO), (3, q(2), ZERO)))
+        for brake, held in (("2", True), ("199/100", False), ("0", False)):
+            told = pinned_slip(rig, qs(brake) + (ZERO, q(2)), ((2, LEFT),))
+            self.assertEqual(told is None, held)
+            if not held:
+                self.same((told.letter, told.push), (1, q(2)))
+                self.assertIsNone(pinned_fault(rig, qs(brake) + (ZERO, q(2)), ((2, LEFT),), told))
+        # The letter that pulls is held fast where its pull is just opposite to that of letter 0.
+        rig = rig_with(3, c01=1, c12=1, c13=1)
+        told = pinned_slip(rig, (q("1/2"), ZERO, ONE), ((2, DOWN),))
+        self.same((told.letter, told.push), (1, ONE))
+
     def test_pushes_in_all_poses_that_keep(self):
         draws = Draws("pins")
         slips = 0

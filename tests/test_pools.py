@@ -9,11 +9,13 @@ from stillarms.fewest import fewest_springs, still_lots
 from stillarms.owners import pool_owners
 from stillarms.pooljudge import least_strength_fault, stills_fault, wished_fault, with_strengths
 from stillarms.pools import LeastStrengths, NoStrengths, Strengths, check_pool, least_strength, stills, wished
+from stillarms.poses import flat_poses
 from stillarms.ratios import ONE, ZERO
 from stillarms.rigs import Rig
 from stillarms.rigtext import rig_of, rig_text
-from stillarms.stillness import is_still
+from stillarms.stillness import is_still, same_feel, still_or_push
 from stillarms.tasks import Solution, solve_task
+from stillarms.works import work_at
 from tests.cases import MAST, ODD_THINGS, Case, Draws, balanced, frac, fracs, free, lamp, lamp_rig, place, q, qs, rank, rig_with
 
 SPAN = (place(MAST, 4), place(0, 1))
@@ -21,7 +23,7 @@ SPAN = (place(MAST, 4), place(0, 1))
 # Things that are no pools for a lamp, each with the index and the word.
 BAD_POOLS = tuple((0, "many", thing) for thing in ODD_THINGS + (5, "12", range(0), (SPAN,) * 9, [SPAN] * 8 + [None])) + (
     (0, "span", (None,)), (0, "span", (SPAN[0],)), (1, "span", (SPAN, SPAN[0])), (2, "span", [SPAN, SPAN, SPAN + SPAN]),
-    (0, "span", ((),)), (0, "span", ((SPAN[0],),)), (7, "span", (SPAN,) * 7 + (None,)), (0, "span", ({1: 1, 2: 2},)),
+    (0, "span", ((),)), (0, "span", ((SPAN[0],),)), (1, "span", (SPAN, SPAN + SPAN[:1])), (7, "span", (SPAN,) * 7 + (None,)), (0, "span", ({1: 1, 2: 2},)),
     (0, "span", (((2, ONE), SPAN[0]), None)), (1, "span", (SPAN, (SPAN[0], (-2, ONE)))), (0, "span", (((True, ONE), SPAN[0]),)),
     (0, "span", (((0, 1), SPAN[0]),)), (0, "span", ((SPAN[0], (0, (2, 4))),)), (0, "span", ("12",)), (0, "span", [[SPAN, SPAN]]),
     (3, "span", (SPAN, SPAN, SPAN, (SPAN[0], None), None)))
@@ -42,7 +44,11 @@ class PoolCase(Case):
         self.assertTrue(total.is_zero())
         self.assertIsNone(stills_fault(rig, pool, Strengths(row)))
         if len(rig.springs) + len(pool) <= 12:
-            self.assertTrue(is_still(with_strengths(rig, pool, row)))
+            found = with_strengths(rig, pool, row)
+            self.assertTrue(is_still(found))
+            self.assertIsNone(still_or_push(found))
+            self.assertIsNone(same_feel(found, Rig(rig.arms)))
+            self.assertEqual(len({work_at(found, pose) for pose in flat_poses(rig.arms)}), 1)
 
     def unstilled(self, rig, pool, told):
         self.assertIs(type(told), NoStrengths)
@@ -274,11 +280,14 @@ class WithWhatIsBuilt(PoolCase):
             told = stills(rig, pool)
             read = rig_of(arms_of(arm_text(arms)), rig_text(rig))
             self.assertTrue(stills(read, pool) == told)
+            lots = list(still_lots(rig, pool))
+            self.same(list(still_lots(read, pool)), lots)
             step, size = draws.ratio(), draws.positive()
             # Springs on the arms and the pool as the rig's places are moved.
             carried = Rig(arms, (), [span + (ONE,) for span in pool])
             for other, moved in ((rig.shifted(step), carried.shifted(step)), (rig.grown(size), carried.grown(size))):
                 spans = tuple(spring[:2] for spring in moved.springs)
+                self.same(list(still_lots(other, spans)), lots)
                 if type(told) is Strengths:
                     self.stilled(other, spans, told.row)
                 else:
@@ -287,6 +296,7 @@ class WithWhatIsBuilt(PoolCase):
             draws.random.shuffle(order)
             renamed = stills(rig.renamed(order), pool)
             self.assertIs(type(renamed), type(told))
+            self.same(list(still_lots(rig.renamed(order), pool)), lots)
             if type(told) is Strengths:
                 self.stilled(rig.renamed(order), pool, told.row)
 

@@ -103,7 +103,9 @@ class Errors(Case):
                                   (((MAST, (ONE, (2, 4)), 1),), 0, "mark"), (((MAST, (0, 1, 2), 1),), 0, "mark"),
                                   (((MAST, (ONE, 1), 1),), 0, "mark"), (((MAST, [0, 1], 1),), 0, "mark"),
                                   (((MAST, {ONE: 1, ZERO: 2}, 1),), 0, "mark"), (((MAST, qs("0 1"), 5),), 0, "letter"),
-                                  (((MAST, qs("0 1"), 2),), 0, "gap"), ((((0, qs("0 1"))),), 0, "bar")):
+                                  (((MAST, qs("0 1"), 2),), 0, "gap"), ((((0, qs("0 1"))),), 0, "bar"),
+                                  (((MAST, qs("0 1"), 1, 1),), 0, "bar"), (((MAST, (0, ONE), 1),), 0, "mark"),
+                                  (((MAST, ((2, 4), ONE), 1),), 0, "mark"), ((BARS[0], [MAST, [None, ONE], 2]), 1, "mark")):
             self.fails(BadArms, {"index": index, "what": what}, Stretched, bars)
             # They come before all others, stretches that are wrong too.
             self.fails(BadArms, {"index": index, "what": what}, Stretched, bars, None, None)
@@ -117,7 +119,10 @@ class Errors(Case):
                                      ((((0, qs("0 1 2")), ONE),), 0, "place"), (((qs("0 1"), ONE),), 0, "place"),
                                      (((place, ONE), (place, ZERO)), 1, "amount"), (((place, [0, 1]),), 0, "amount"),
                                      (((place, qs("-1 0")),), 0, "amount"), (((place, qs("0 0")),), 0, "amount"),
-                                     (((place, qs("1 -1")),), 0, "amount"), (((place, (ONE, 1)),), 0, "amount")):
+                                     (((place, qs("1 -1")),), 0, "amount"), (((place, (ONE, 1)),), 0, "amount"),
+                                     (((place, (0, ONE)),), 0, "amount"), (((place,),), 0, "weight"),
+                                     ((((0,), ONE),), 0, "place"), ((((0, qs("0 1"), 1), ONE),), 0, "place"),
+                                     ((((0, (1, ONE)), ONE),), 0, "place"), ((place + place,), 0, "weight")):
             self.fails(BadRig, {"index": index, "what": what}, Stretched, BARS, weights)
             self.fails(BadRig, {"index": index, "what": what}, Stretched, ((MAST, qs("2 1"), 1),), weights, None)
         for springs, index, what in ((None, 0, "springs"), (((place, place, ONE),) * 13, 0, "springs"),
@@ -126,7 +131,9 @@ class Errors(Case):
                                      (((place, (0, qs("0 1") + (2,)), ONE),), 0, "end"),
                                      (((place, place, ONE), (place, place, ZERO)), 1, "strength"),
                                      (((place, place, qs("-1 0")),), 0, "strength"),
-                                     (((place, place, None),), 0, "strength")):
+                                     (((place, place, None),), 0, "strength"), (((place, place, (1, ONE)),), 0, "strength"),
+                                     (((place, (0,), ONE),), 0, "end"), ((((0, ((2, 4), ONE)), place, ONE),), 0, "end"),
+                                     (((place, place, ONE, ONE),), 0, "spring"), (((place, place + (1,), ONE),), 0, "end")):
             self.fails(BadRig, {"index": index, "what": what}, Stretched, BARS, (), springs)
             self.fails(BadRig, {"index": index, "what": what}, Stretched, BARS, ((place, qs("2 1")),), springs)
 

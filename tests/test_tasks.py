@@ -217,12 +217,14 @@ class Cheapest(TaskCase):
         self.assertTrue(told == least_cost(columns, qs("3 2"), (ONE,) * 4))
 
     def test_steps_that_change_nothing(self):
-        # Beale's task, on which the plain choice of columns goes round without end.
+        # Beale's task, and one on which the plain choice of columns goes round without end, ere it has any amounts.
         columns = columns_of("1 0 0", "0 1 0", "0 0 1", "1/4 1/2 0", "-60 -90 0", "-1/25 -1/50 1", "9 3 0")
         target, costs = qs("0 0 1"), qs("0 0 0 -3/4 150 -1/50 6")
         told = least_cost(columns, target, costs)
         self.least(columns, target, costs, told)
         self.same(told.value, q("-1/20"))
+        columns = columns_of("100 0 -100", "0 50 -50", "25 25 25", "-6000 -4500 -4500", "-4 -1 7", "900 150 -1650")
+        self.solved(columns, qs("0 0 1000000"), solve_task(columns, qs("0 0 1000000")))
 
     def test_drawn(self):
         draws = Draws("costs")
