@@ -1,9 +1,10 @@
 """Settings of slides that settle a rig at some amounts of its loads, and rules that do so at all amounts."""
-from stillarms.arms import is_nought, join_rows, row_at, scale_row, take_row
+from stillarms.arms import join_rows, scale_row
 from stillarms.brakes import check_brakes
-from stillarms.couplings import couplings_by, pairs_of
-from stillarms.ratios import ONE, ZERO, minus, over, plus, times
+from stillarms.independent import independent_among
+from stillarms.ratios import ONE, ZERO, minus, over, times
 from stillarms.rows import lots_among
+from stillarms.settling import papers_by, settings_by, settle_columns, settle_target, start_at
 from stillarms.slides import check_amounts, check_loads, check_slides, corner_amounts, straight_parts
 from stillarms.tasks import Against, solve_task
 
@@ -22,64 +23,19 @@ def settings_for(rig, loads, slides, amounts, *, brakes=None):
 
 
 def _settle(parts, slides, amounts, brakes):
-    """Settings for these amounts, or what shows that there are none.
-
-    The task has a row for each coupling, which is to be 0, and one for each slide; with brakes also one for each
-    letter, whose brake is to be used up. Its columns are: how far each slide stands above its low, and how far below
-    its high; with brakes also how far each coupling is above 0, and how far below.
-    """
-    letters = parts.constant.letters
-    start = parts.constant
-    for amount, part in zip(amounts, parts.by_loads):
-        start = start.added(part.scaled(amount))
-    for slide, part in zip(slides, parts.by_slides):
-        start = start.added(part.scaled(slide[-2]))
-    brakes_row = () if brakes is None else brakes
-    columns = _slide_columns(parts.by_slides, len(brakes_row))
-    if brakes is not None:
-        columns += _brake_columns(letters, len(slides))
-    room = tuple([minus(slide[-1], slide[-2]) for slide in slides])
-    told = solve_task(columns, start.opposite().numbers + room + brakes_row)
+    """Settings for these amounts, or what shows that there are none."""
+    braked = brakes is not None
+    target = settle_target([start_at(parts, slides, amounts)], slides, brakes)
+    told = solve_task(settle_columns(parts, 1, braked), target)
     if isinstance(told, Against):
-        return _no_setting(letters, told.numbers, len(slides), brakes)
-    return Settings(tuple([plus(slide[-2], above) for slide, above in zip(slides, told.amounts)]))
+        return no_settings(parts, told.numbers, 1, braked)[0]
+    return Settings(settings_by(slides, told.amounts))
 
 
-def _unit(many, at):
-    """A row of so many ratios, 1 at this index."""
-    return tuple([ONE if index == at else ZERO for index in range(many)])
-
-
-def _slide_columns(by_slides, brake_rows):
-    """How far the slides stand above their lows, then how far below their highs."""
-    rest = (ZERO,) * brake_rows
-    many = len(by_slides)
-    above = [part.numbers + _unit(many, index) + rest for index, part in enumerate(by_slides)]
-    below = [(ZERO,) * len(part.numbers) + _unit(many, index) + rest for index, part in enumerate(by_slides)]
-    return above + below
-
-
-def _brake_columns(letters, slide_rows):
-    """How far the couplings are above 0, and how far below, each at the brakes of its letters.
-
-    Both columns of a coupling with letter 0 together change no coupling; they use up what its brake has left.
-    """
-    pairs = pairs_of(letters)
-    middle = (ZERO,) * slide_rows
-    columns = []
-    for index, (one, other) in enumerate(pairs):
-        # Letter 0 has no brake.
-        used = join_rows(row_at(letters, one, ONE), row_at(letters, other, ONE))[1:]
-        columns.append(scale_row(_unit(len(pairs), index), (-1, 1)) + middle + used)
-        columns.append(_unit(len(pairs), index) + middle + used)
-    return columns
-
-
-def _no_setting(letters, numbers, slide_rows, brakes):
-    """The numbers against the task, those of the couplings as a table and those of the brakes as shares."""
-    many = len(pairs_of(letters))
-    shares = None if brakes is None else numbers[many + slide_rows:]
-    return NoSetting(couplings_by(letters, numbers[:many]), shares)
+def no_settings(parts, numbers, copies, braked):
+    """What numbers against a task of so many rows of amounts show, one NoSetting for each of these."""
+    papers = papers_by(parts.constant.letters, numbers, len(parts.by_slides), copies, braked)
+    return tuple([NoSetting(table, shares) for table, shares in papers])
 
 
 def rule_for(rig, loads, slides, *, brakes=None):
@@ -117,20 +73,7 @@ def fewest_slides(rig, loads, slides, *, brakes=None):
 def needed_slides(rig, loads):
     loads = check_loads(rig, loads)
     rows = rig.weight_rows()
-    return _rank_of([rows[weight][1:] for weight, low, high in loads if low != high])
-
-
-def _rank_of(rows):
-    """How many of the rows are independent at most."""
-    rank = 0
-    while rows != []:
-        first = rows[0]
-        rows = rows[1:]
-        if not is_nought(first):
-            at = [number != ZERO for number in first].index(True)
-            rows = [take_row(row, scale_row(first, over(row[at], first[at]))) for row in rows]
-            rank += 1
-    return rank
+    return len(independent_among([rows[weight][1:] for weight, low, high in loads if low != high]))
 
 
 class Settings:

@@ -93,7 +93,12 @@ def _add_end(half):
 
 def turned_by(direction, half):
     direction = check_direction(direction)
-    sine, cosine = mirrored_direction(direction_by(half))
+    return turned_as(direction, direction_by(half))
+
+
+def turned_as(direction, turn):
+    """The direction turned to the left as up is turned to get the second direction."""
+    sine, cosine = mirrored_direction(turn)
     return (cross_of(direction, (sine, cosine)), dot_of(direction, (sine, cosine)))
 
 

@@ -52,3 +52,8 @@ def lots_among(many, most):
 
 def is_part(part, lot):
     return all([number in lot for number in part])
+
+
+def couples_of(row):
+    """All couples of entries of a row, in order."""
+    return [(one, other) for index, one in enumerate(row) for other in row[index + 1:]]

@@ -71,29 +71,29 @@ def _check_slide(rig, taken, index, slide):
 
 
 def check_amounts(loads, amounts):
-    if first_outside(amounts, _stretches_of(loads)) is not None:
+    if first_outside(amounts, stretches_of(loads)) is not None:
         raise BadAmounts()
     return tuple(amounts)
 
 
 def check_settings(slides, settings):
-    if first_outside(settings, _stretches_of(slides)) is not None:
+    if first_outside(settings, stretches_of(slides)) is not None:
         raise BadSettings()
     return tuple(settings)
 
 
-def _stretches_of(rows):
+def stretches_of(rows):
     """The stretches of loads or slides."""
     return [row[-2:] for row in rows]
 
 
 def corner_amounts(loads):
-    for amounts in corners_of(_stretches_of(loads)):
+    for amounts in corners_of(stretches_of(loads)):
         yield amounts
 
 
 def corner_settings(slides):
-    for settings in corners_of(_stretches_of(slides)):
+    for settings in corners_of(stretches_of(slides)):
         yield settings
 
 

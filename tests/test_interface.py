@@ -79,6 +79,21 @@ LISTED = {
     "adjusters": """settings_for(rig, loads, slides, amounts, *, brakes=None),
         rule_for(rig, loads, slides, *, brakes=None), fewest_slides(rig, loads, slides, *, brakes=None),
         needed_slides(rig, loads)""",
+    "slidejudges": """settings_fault(rig, loads, slides, amounts, told, *, brakes=None),
+        rule_fault(rig, loads, slides, told, *, brakes=None)""",
+    "widest": "widest_load(rig, weight, slides, *, brakes=None)",
+    "holding": """fixed_settings(rig, loads, slides, *, brakes=None), least_push(rig, loads, slides, amounts),
+        worst_push(rig, loads, slides)""",
+    "squares": "check_grid(grid), grid_value(grid, turns), split_grid(grid), split_fault(grid, split)",
+    "leastwork": """blocks_of(couplings), lowest_of(couplings), lowest_fault(couplings, lowest), least_value(couplings),
+        greatest_value(couplings), least_work(rig), greatest_work(rig), most_between(rig),
+        square_range(arms, one, other, third, fourth), never_farther(arms, one, other, third, fourth)""",
+    "rests": """rest_of(rig, pose), rest_fault(rig, pose, told), overall_of(rig, pose), overall_fault(rig, pose, told),
+        flat_rests(rig), lowest_pose(rig)""",
+    "locks": """check_locks(arms, locks), leaders_of(arms, locks), obeys_locks(arms, locks, pose),
+        locked_pose(arms, locks, pose)""",
+    "lockstill": """locked_couplings(rig, locks), still_locked(rig, locks), stilling_locks(rig),
+        fewest_locks(rig)""",
 }
 
 CLASSES = {
@@ -113,12 +128,21 @@ CLASSES = {
     "adjusters": {"Settings(row)": "__eq__(other)", "NoSetting(table, shares)": "__eq__(other)",
                   "Rule(loads, corners, rows)": "__call__(amounts), __eq__(other)",
                   "NoRule(amounts, why)": "__eq__(other)"},
+    "widest": {"Widest(low, high, below, beyond)": "__eq__(other)"},
+    "holding": {"NoFixed(row)": "__eq__(other)", "LeastPush(value, row, table, shares)": "__eq__(other)",
+                "WorstPush(amounts, least)": "__eq__(other)"},
+    "squares": {"Firm(squares)": "__eq__(other)", "Even(squares, turns)": "__eq__(other)",
+                "Falls(turns)": "__eq__(other)"},
+    "leastwork": {"Lowest(value, cosines, squares)": "__eq__(other)"},
+    "rests": {"Pushed(letter)": "__eq__(other)"},
+    "lockstill": {"Uneven(pose, rise)": "__eq__(other)"},
 }
 
-PROPERTIES = (("works", "Sway", "swing"), ("alike", "Copying", "fixed_mark"), ("stretches", "Stretched", "middle"))
+PROPERTIES = (("works", "Sway", "swing"), ("alike", "Copying", "fixed_mark"), ("stretches", "Stretched", "middle"),
+              ("leastwork", "Lowest", "is_bent"))
 GENERATORS = (("poses", "flat_poses"), ("poses", "quarter_poses"), ("stretches", "corner_choices"),
               ("losses", "spring_lots"), ("lean", "all_lean"), ("fewest", "still_lots"), ("slides", "corner_amounts"),
-              ("slides", "corner_settings"))
+              ("slides", "corner_settings"), ("rests", "flat_rests"))
 
 # Classes that check or keep more than they are given.
 NO_RESULTS = ("Arms", "Rig", "Couplings", "Stretched")
