@@ -1,8 +1,11 @@
 """The interface: each name in its own file, with its arguments and defaults, and each method in its own class."""
 import importlib
 import inspect
+import pkgutil
 import re
 import unittest
+
+import stillarms
 
 LISTED = {
     "ratios": """is_whole(thing, low=None, high=None), is_ratio(thing), make_ratio(top, bottom=1), plus(one, other),
@@ -94,6 +97,21 @@ LISTED = {
         locked_pose(arms, locks, pose)""",
     "lockstill": """locked_couplings(rig, locks), still_locked(rig, locks), stilling_locks(rig),
         fewest_locks(rig)""",
+    "feels": """felt_ratio(one, other), felt_weight(rig, place), felt_spring(rig, one, other), needless_weights(rig),
+        needless_springs(rig)""",
+    "spreads": """spread_weight(arms, place, places, *, exact=False),
+        spread_fault(arms, place, places, told, *, exact=False)""",
+    "sameness": "twins_on(one, other, place), first_unlike(one, other), moved_rig(rig, other)",
+    "unknown": """check_guess(unknowns, guess), rig_with(unknowns, guess), check_fact(unknowns, fact),
+        check_facts(unknowns, facts), fact_rows(unknowns, fact), holds_fact(unknowns, guess, fact)""",
+    "fitted": """fit_facts(unknowns, facts), fit_fault(unknowns, facts, told), is_sure(unknowns, facts, question),
+        sure_fault(unknowns, facts, question, told), share_range(unknowns, facts, number, other)""",
+    "changes": "check_form(arms, change), apply_change(rig, change), apply_changes(rig, changes)",
+    "wishes": """check_wish(arms, wish), check_wishes(arms, wishes), holds_wish(rig, wish),
+        holds_all(rig, wishes)""",
+    "mends": """good_selections(rig, pool, wishes), least_mends(rig, pool, wishes), spoilers(rig, pool, wishes),
+        mends_fault(rig, pool, wishes, mends)""",
+    "bench": "",
 }
 
 CLASSES = {
@@ -136,16 +154,23 @@ CLASSES = {
     "leastwork": {"Lowest(value, cosines, squares)": "__eq__(other)"},
     "rests": {"Pushed(letter)": "__eq__(other)"},
     "lockstill": {"Uneven(pose, rise)": "__eq__(other)"},
+    "spreads": {"Spread(amounts)": "__eq__(other)", "NoSpread(numbers)": "__eq__(other)"},
+    "unknown": {"Unknowns(arms, places, spans)": "__len__(), __eq__(other)"},
+    "fitted": {"Fits(guess)": "__eq__(other)", "Clash(lots, numbers)": "__eq__(other)", "Sure()": "__eq__(other)",
+               "Never()": "__eq__(other)", "Both(yes, no)": "__eq__(other)"},
+    "mends": {"Mend(selection, rig)": "__eq__(other)"},
+    "bench": {"Bench(rig)": """make(change), undo(), holds(*wishes), trial(*changes, wishes=(('still',),)), stages(),
+        __len__(), __contains__(place)"""},
 }
 
 PROPERTIES = (("works", "Sway", "swing"), ("alike", "Copying", "fixed_mark"), ("stretches", "Stretched", "middle"),
-              ("leastwork", "Lowest", "is_bent"))
+              ("leastwork", "Lowest", "is_bent"), ("bench", "Bench", "made"))
 GENERATORS = (("poses", "flat_poses"), ("poses", "quarter_poses"), ("stretches", "corner_choices"),
               ("losses", "spring_lots"), ("lean", "all_lean"), ("fewest", "still_lots"), ("slides", "corner_amounts"),
               ("slides", "corner_settings"), ("rests", "flat_rests"))
 
 # Classes that check or keep more than they are given.
-NO_RESULTS = ("Arms", "Rig", "Couplings", "Stretched")
+NO_RESULTS = ("Arms", "Rig", "Couplings", "Stretched", "Unknowns", "Bench")
 
 
 def calls(text):
@@ -180,7 +205,9 @@ class Interface(unittest.TestCase):
                 (name, arguments), = calls(head)
                 made = getattr(home, name)
                 self.assertEqual((made.__module__, made.__bases__), (home.__name__, (object,)))
-                self.assertEqual(signature(made.__init__, own=True), arguments, name)
+                # A class without arguments needs no __init__ of its own.
+                if arguments != "()":
+                    self.assertEqual(signature(made.__init__, own=True), arguments, name)
                 for method, told in calls(text):
                     self.assertIn(method, vars(made), name)
                     self.assertEqual(signature(vars(made)[method], own=True), told, f"{name}.{method}")
@@ -203,16 +230,28 @@ class Interface(unittest.TestCase):
                 if name in NO_RESULTS:
                     continue
                 names = re.findall(r"\w+", arguments)
-                values = [[], *[object() for _ in names[1:]]]
+                values = [[] if at == 0 else object() for at in range(len(names))]
                 made = getattr(importlib.import_module("stillarms." + module), name)
                 told = made(*values)
                 self.assertEqual(vars(told), dict(zip(names, values)))
-                self.assertIs(getattr(told, names[0]), values[0])
+                self.assertTrue(all(vars(told)[word] is value for word, value in zip(names, values)))
                 self.assertTrue(told == made(*values))
                 self.assertFalse(told == type("Other", (), vars(told))())
                 for index in range(len(values)):
                     other = made(*values[:index], object(), *values[index + 1:])
                     self.assertFalse(told == other or other == told, head)
+
+    def test_generators_of_the_bench(self):
+        made = importlib.import_module("stillarms.bench").Bench
+        self.assertTrue(inspect.isgeneratorfunction(made.stages))
+        self.assertEqual([name for name in ("make", "undo", "holds", "trial") if inspect.isgeneratorfunction(vars(made)[name])], [])
+
+    def test_all_modules_are_listed(self):
+        # The modules that the document does not name serve those that it does.
+        own = ("errors", "rows", "bounds", "simplex", "independent", "settling")
+        found = sorted(module.name for module in pkgutil.iter_modules(stillarms.__path__))
+        self.assertEqual(found, sorted(list(LISTED) + list(own)))
+        self.assertLessEqual(set(CLASSES), set(LISTED))
 
     def test_constants(self):
         ratios = importlib.import_module("stillarms.ratios")
