@@ -3,7 +3,7 @@ from stillarms.arms import is_place
 from stillarms.errors import BadChange
 from stillarms.ratios import is_positive, is_whole
 from stillarms.rigs import MOST_SPRINGS, MOST_WEIGHTS
-from stillarms.rows import is_row
+from stillarms.rows import is_row, is_worded
 
 MOST_CHANGES = 8
 # How long a change of each form is.
@@ -30,9 +30,7 @@ def check_form_at(arms, index, change):
 
 
 def _has_form(thing):
-    if not is_row(thing, 1) or not isinstance(thing[0], str):
-        return False
-    return FORMS.get(thing[0]) == len(thing)
+    return is_worded(thing) and FORMS.get(thing[0]) == len(thing)
 
 
 def kept_change(change):

@@ -1,7 +1,7 @@
 """Rigs with the springs of a pool, and judges of what is told of pools."""
 from stillarms.bounds import is_from_zero
 from stillarms.errors import BadStrengths
-from stillarms.pools import NoStrengths, check_pool, check_wish, span_columns, still_target
+from stillarms.pools import NoStrengths, check_pool, check_table, span_columns, still_target
 from stillarms.ratios import ONE, ZERO
 from stillarms.rigs import Rig
 from stillarms.rows import first_wrong, is_row
@@ -35,7 +35,7 @@ def stills_fault(rig, pool, told):
 
 def wished_fault(arms, pool, couplings, told):
     pool = check_pool(arms, pool)
-    check_wish(arms, couplings)
+    check_table(arms, couplings)
     columns = span_columns(arms, pool)
     if isinstance(told, NoStrengths):
         return table_fault(columns, couplings.numbers, told.table, {"column": "span", "target": "wish"})

@@ -36,7 +36,7 @@ def stills(rig, pool):
     return _told_strengths(rig.arms, solve_task(span_columns(rig.arms, pool), still_target(rig)))
 
 
-def check_wish(arms, couplings):
+def check_table(arms, couplings):
     """Raises OtherLetters unless the table is one of as many letters as the arms have."""
     if couplings.letters != arms.letters:
         raise OtherLetters()
@@ -44,7 +44,7 @@ def check_wish(arms, couplings):
 
 def wished(arms, pool, couplings):
     pool = check_pool(arms, pool)
-    check_wish(arms, couplings)
+    check_table(arms, couplings)
     return _told_strengths(arms, solve_task(span_columns(arms, pool), couplings.numbers))
 
 

@@ -11,6 +11,11 @@ def is_row(thing, least=0, most=None):
     return len(thing) >= least and (most is None or len(thing) <= most)
 
 
+def is_worded(thing):
+    """Whether a thing is a row that begins with a text."""
+    return is_row(thing, 1) and isinstance(thing[0], str)
+
+
 def first_wrong(thing, many, is_right):
     """The least index at which a row of so many right entries is wrong, or None."""
     if not is_row(thing):

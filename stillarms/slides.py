@@ -4,7 +4,7 @@ from stillarms.couplings import couplings_of
 from stillarms.errors import BadAmounts, BadLoads, BadSettings, BadSlide
 from stillarms.ratios import ONE, ZERO, is_whole
 from stillarms.rigs import Rig
-from stillarms.rows import is_row
+from stillarms.rows import is_row, is_worded
 
 MOST_LOADS = 3
 MOST_SLIDES = 3
@@ -44,9 +44,7 @@ def check_slides(rig, loads, slides):
 
 
 def _has_form(thing):
-    if not is_row(thing, 1) or not isinstance(thing[0], str):
-        return False
-    return FORMS.get(thing[0]) == len(thing)
+    return is_worded(thing) and FORMS.get(thing[0]) == len(thing)
 
 
 def _owner_of(slide):

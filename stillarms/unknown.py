@@ -6,7 +6,7 @@ from stillarms.errors import BadFact, BadGuess, BadPose, BadUnknowns
 from stillarms.poses import check_pose
 from stillarms.ratios import ONE, ZERO, is_whole, product_of
 from stillarms.rigs import Rig
-from stillarms.rows import first_wrong, is_row
+from stillarms.rows import first_wrong, is_row, is_worded
 from stillarms.stillness import push_by, work_rise
 
 MOST_UNKNOWN = 4
@@ -88,9 +88,7 @@ def _check_side(unknowns, index, letter, side):
 
 
 def _has_form(thing):
-    if not is_row(thing, 1) or not isinstance(thing[0], str):
-        return False
-    return FORMS.get(thing[0]) == len(thing)
+    return is_worded(thing) and FORMS.get(thing[0]) == len(thing)
 
 
 def _checked_pose(unknowns, index, pose):

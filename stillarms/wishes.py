@@ -8,7 +8,7 @@ from stillarms.locks import check_locks
 from stillarms.lockstill import still_locked
 from stillarms.poses import check_pose
 from stillarms.ratios import compare, is_ratio
-from stillarms.rows import is_row
+from stillarms.rows import is_row, is_worded
 from stillarms.stillness import is_still
 from stillarms.works import rests_in
 
@@ -31,7 +31,7 @@ def check_wishes(arms, wishes):
 
 
 def _is_wish(arms, thing):
-    if not is_row(thing, 1) or not isinstance(thing[0], str) or FORMS.get(thing[0]) != len(thing):
+    if not is_worded(thing) or FORMS.get(thing[0]) != len(thing):
         return False
     if thing[0] == "feels":
         return is_place(arms, thing[1]) and is_ratio(thing[2])
