@@ -18,7 +18,8 @@ class Bench:
         return len(self._changes)
 
     def __contains__(self, place):
-        if not isinstance(place, tuple) or not is_place(self.rig.arms, place):
+        # A list is equal to no place of the rig, but True is equal to 1 and no number.
+        if not is_place(self.rig.arms, place):
             return False
         ends = [end for one, other, _ in self.rig.springs for end in (one, other)]
         return place in [hung for hung, _ in self.rig.weights] + ends

@@ -1,7 +1,6 @@
 """Selections of changes from a pool behind which a rig has all wishes."""
 from stillarms.changes import apply_changes, check_form_at
 from stillarms.errors import BadChange
-from stillarms.rigs import Rig
 from stillarms.rows import is_lot, is_part, is_row, lots_among
 from stillarms.wishes import check_wishes, holds_all
 
@@ -93,7 +92,7 @@ def _mend_fault(rig, pool, wishes, good, mend):
     behind = _rig_behind(rig, pool, mend.selection)
     if behind is None:
         return "refused"
-    if not isinstance(mend.rig, Rig) or mend.rig != behind:
+    if mend.rig != behind:
         return "behind"
     if not holds_all(behind, wishes):
         return "wish"

@@ -165,6 +165,10 @@ class FitJudge(Case):
             self.assertEqual(fit_fault(example(), facts, Clash(lots, qs(text))), fault, text)
         facts = (STILL, TO_THE_LEFT)
         self.assertIsNone(fit_fault(example(), facts, Clash(lots, qs("-1 1"))))
+        # A strict row with a number below 0 shows nothing, though all sums are below 0.
+        facts = (TO_THE_LEFT, TO_THE_RIGHT, ("more", 0, 1))
+        self.assertEqual(fit_fault(example(), facts, Clash(lots, qs("1 0 -3"))), "numbers")
+        self.assertIsNone(fit_fault(example(), facts, Clash(lots, qs("1 1 0"))))
 
 
 class SureCase(Case):

@@ -172,6 +172,14 @@ class LowestOf(LowestCase):
         self.fails(TooMixed, {"letters": (0, 1, 2, 3)}, lowest_of, table(3, c01=-1, c12=-1, c23=-1, c03=q_text("34/100")))
         self.judged(table(3, c01=-1, c12=-1, c23=-1, c03=q_text("33/100")))
 
+    def test_two_flat_choices_of_least_value(self):
+        # Both 1, 1, 1, 1 and 1, 1, -1, -1 have the least value; so has any pose with letters 0, 1 and 2, 3 together.
+        told = self.judged(table(3, c01=-4, c23=-4, c02=2, c03=-2, c12=-2, c13=2))
+        self.same((told.value, told.cosines), (q(-8), tuple(pair + (ONE,) for pair in pairs_of(3))))
+        # Now it is 1, 1, 1, -1 and 1, 1, -1, 1 that have it.
+        told = self.judged(table(3, c01=-4, c23=4, c02=2, c03=2, c12=-2, c13=-2))
+        self.same((told.value, [row[2] for row in told.cosines]), (q(-8), [ONE, ONE, q(-1), ONE, q(-1), q(-1)]))
+
     def test_five_letters(self):
         ring = dict(c01=-4, c12=-4, c23=-4, c34=-4)
         told = self.judged(table(4, c04=1, **ring))

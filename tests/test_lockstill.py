@@ -138,6 +138,9 @@ class Fewest(Case):
         self.same(fewest_locks(rig_with(4, c01=1, c02=1, c03=5, c04=-5)), ((1, 2, 2), (3, 4, 0)))
         # The locks come in the order of tuples, which ask the first letter before the second.
         self.same(fewest_locks(rig_with(4, c12=1, c34=1)), ((1, 2, 0), (3, 4, 0)))
+        # Second letters ascend, also where tuples would come in another order: the lock of 0 with 3 comes last.
+        self.same(fewest_locks(rig_with(3, c03=1, c12=2)), ((1, 2, 0), (0, 3, 0)))
+        self.same(fewest_locks(rig_with(3, c03=1, c12=1)), ((0, 1, 0), (2, 3, 2)))
         # Locks of quarters alone: the couplings with letter 0 do away with one another a quarter apart.
         self.same(fewest_locks(rig_with(3, c02=3, c12=3)), ((0, 1, 2),))
         self.same(fewest_locks(rig_with(3, c02=3, c12=-3)), ((0, 1, 0),))

@@ -196,6 +196,7 @@ class Judge(Case):
         self.assertEqual(self.judged(right[:2] + right[1:]), "order")
         self.assertEqual(self.judged([right[1], right[0]] + right[2:]), "order")
         self.assertEqual(self.judged([right[3]] + right[:3]), "order")
+        self.assertEqual(self.judged(right[:2] + [right[3], right[2]]), "order")
         for index in range(4):
             self.assertEqual(self.judged(right[:index] + right[index + 1:]), "missing")
         self.assertEqual(self.judged(()), "missing")

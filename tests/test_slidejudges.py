@@ -171,7 +171,7 @@ class OfRules(Case):
 
     def test_loads(self):
         for loads in ODD_THINGS + ((), [LOAD[0]], (list(LOAD[0]),), LOAD * 2, ((0, ZERO, q(4)),), ((1, ZERO, q(3)),),
-                                   ((False, ZERO, q(3)),), ((0.0, ZERO, q(3)),), ((0, (False, 1), q(3)),), ((0, (0, True), q(3)),)):
+                                   ((False, ZERO, q(3)),), ((0.0, ZERO, q(3)),), ((0, (False, 1), q(3)),), ((0, (0, True), q(3)),), ((0, ZERO, (3, True)),)):
             self.assertEqual(self.judged(loads=loads), "loads")
             self.assertEqual(self.judged(loads=loads, corners=None, rows=None), "loads")
 

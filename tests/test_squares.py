@@ -162,6 +162,8 @@ class Judges(Case):
         grid = columns_of("2 2 0", "2 2 0", "0 0 0")
         self.assertIsNone(split_fault(grid, Even(((ONE, qs("1 1 0")),) * 2, qs("0 0 1"))))
         self.assertEqual(split_fault(grid, Even(((q("2/3"), qs("1 1 0")),) * 3, qs("0 0 1"))), "squares")
+        # A row of zeros is no square, though it adds nothing.
+        self.assertEqual(split_fault(grid, Even(((q(2), qs("1 1 0")), (ONE, qs("0 0 0"))), qs("0 0 1"))), "squares")
 
     def test_class(self):
         told = {grid: split_grid(grid) for grid in (FIRM, EVEN, FALLS)}
