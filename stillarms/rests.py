@@ -27,13 +27,13 @@ def _near_grid(couplings, pose):
     """The grid whose value, halved, is how the work grows as letters turn by small angles."""
     letters = couplings.letters
     cosines = _cosines_in(couplings, pose)
-    # Off the diagonal stands minus w, which is the coupling times the cosine.
-    bent = {pair: times(couplings.coupling(pair[0], pair[1]), cosines[pair]) for pair in cosines}
+    # Each is minus w: the coupling times the cosine.
+    works = {pair: times(couplings.coupling(pair[0], pair[1]), cosines[pair]) for pair in cosines}
     rows = []
     for one in range(1, letters + 1):
         row = []
         for other in range(1, letters + 1):
-            row.append(_near_diagonal(bent, letters, one) if one == other else bent[_pair_of(one, other)])
+            row.append(_near_diagonal(works, letters, one) if one == other else works[_pair_of(one, other)])
         rows.append(row)
     return rows
 
@@ -42,8 +42,8 @@ def _pair_of(one, other):
     return (min(one, other), max(one, other))
 
 
-def _near_diagonal(bent, letters, letter):
-    return negative(sum_of([bent[_pair_of(letter, other)] for other in others_of(letters, letter)]))
+def _near_diagonal(works, letters, letter):
+    return negative(sum_of([works[_pair_of(letter, other)] for other in others_of(letters, letter)]))
 
 
 def rest_of(rig, pose):
