@@ -34,9 +34,7 @@ def _has_form(thing):
 
 
 def kept_change(change):
-    """A change of right form as a tuple, its places too."""
-    if change[0] in ("drop", "cut"):
-        return tuple(change)
+    """A change of right form as a tuple, its places too; what is taken away has none."""
     return (change[0],) + tuple([tuple(place) for place in change[1:-1]]) + (change[-1],)
 
 

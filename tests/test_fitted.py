@@ -167,7 +167,8 @@ class FitJudge(Case):
         self.assertIsNone(fit_fault(example(), facts, Clash(lots, qs("-1 1"))))
         # A strict row with a number below 0 shows nothing, though all sums are below 0.
         facts = (TO_THE_LEFT, TO_THE_RIGHT, ("more", 0, 1))
-        self.assertEqual(fit_fault(example(), facts, Clash(lots, qs("1 0 -3"))), "numbers")
+        for text in ("1 0 -3", "1/3 0 -1"):
+            self.assertEqual(fit_fault(example(), facts, Clash(lots, qs(text))), "numbers")
         self.assertIsNone(fit_fault(example(), facts, Clash(lots, qs("1 1 0"))))
 
 
